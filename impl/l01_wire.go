@@ -53,31 +53,31 @@ func (d *decoder) number() (int, int) {
 	return 0, numberWrong
 }
 
+// frame goes over one frame; it tells whether that was a whole one. Its
+// payload is a piece of data itself: who keeps it must copy it.
+func (d *decoder) frame() ([]byte, bool, int) {
+	size, found := d.number()
+	switch {
+	case found == numberCut:
+		return nil, false, OK
+	case found == numberWrong:
+		return nil, false, ErrForm
+	case size > MaxFrame:
+		return nil, false, ErrRange
+	case d.left() < size+sumSize:
+		return nil, false, OK
+	}
+	payload := d.take(size)
+	if sumOf(d.take(sumSize)) != Crc(payload) {
+		return nil, false, ErrSum
+	}
+	return payload, true, OK
+}
+
 // frameReader gathers the payloads of the frames that its decoder goes along.
 type frameReader struct {
 	decoder
 	payloads [][]byte
-}
-
-// frame goes over one frame; it tells whether that was a whole one.
-func (r *frameReader) frame() (bool, int) {
-	size, found := r.number()
-	switch {
-	case found == numberCut:
-		return false, OK
-	case found == numberWrong:
-		return false, ErrForm
-	case size > MaxFrame:
-		return false, ErrRange
-	case r.left() < size+sumSize:
-		return false, OK
-	}
-	payload := r.take(size)
-	if sumOf(r.take(sumSize)) != Crc(payload) {
-		return false, ErrSum
-	}
-	r.payloads = append(r.payloads, join(payload))
-	return true, OK
 }
 
 // frames goes over all whole frames; with a fault or without, it ends where
@@ -85,11 +85,12 @@ func (r *frameReader) frame() (bool, int) {
 func (r *frameReader) frames() int {
 	for {
 		begin := r.at
-		whole, code := r.frame()
+		payload, whole, code := r.frame()
 		if !whole {
 			r.at = begin
 			return code
 		}
+		r.payloads = append(r.payloads, join(payload))
 	}
 }
 

@@ -2,6 +2,7 @@ package tests
 
 import (
 	"bytes"
+	"go/ast"
 	"go/format"
 	"go/parser"
 	"go/token"
@@ -41,5 +42,26 @@ func TestLayoutAndImports(t *testing.T) {
 				t.Error("import of", path, "in", name)
 			}
 		}
+	}
+}
+
+// The chapter 'Ways': the log has an interface for records, one type each, asked by a type switch.
+func TestWaysOfTheLog(t *testing.T) {
+	f, err := parser.ParseFile(token.NewFileSet(), "../impl/l03_wal.go", nil, 0)
+	if err != nil {
+		t.Fatal(err)
+	}
+	interfaces, cases := 0, 0
+	ast.Inspect(f, func(n ast.Node) bool {
+		switch x := n.(type) {
+		case *ast.InterfaceType:
+			interfaces++
+		case *ast.TypeSwitchStmt:
+			cases += len(x.Body.List)
+		}
+		return true
+	})
+	if interfaces == 0 || cases < 3 {
+		t.Error("interfaces", interfaces, "cases of type switches", cases)
 	}
 }
