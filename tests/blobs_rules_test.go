@@ -169,6 +169,21 @@ func TestShaFromManySides(t *testing.T) {
 	}
 }
 
+// P1: likewise of runs, which read what was made once.
+func TestBlobRunFromManySides(t *testing.T) {
+	var group sync.WaitGroup
+	got := make([][]impl.Blob, 32)
+	for i := range got {
+		group.Go(func() { _, got[i], _ = impl.BlobRun([]impl.BlobAct{put(long(i)), put(long(i))}) })
+	}
+	group.Wait()
+	for i := range got {
+		if !sameBlobs(got[i], []impl.Blob{blob(2, long(i))}) {
+			t.Errorf("a run with %d bytes: %v", i, got[i])
+		}
+	}
+}
+
 // An empty list and nil are the same value.
 func TestBlobEmptyIsNil(t *testing.T) {
 	wantBlobs(t, []impl.BlobAct{}, nil)
@@ -217,5 +232,62 @@ func TestWaysOfTheBlobs(t *testing.T) {
 	})
 	if once == 0 || !slices.ContainsFunc(maps, func(key string) bool { return arrays[key] }) {
 		t.Error("arrays", arrays, "keys of maps", maps, "made once", once)
+	}
+}
+
+// namedBy tells, for each function of a file, which names stand in it.
+func namedBy(f *ast.File) map[string]map[string]bool {
+	names := map[string]map[string]bool{}
+	for _, d := range f.Decls {
+		fn, ok := d.(*ast.FuncDecl)
+		if !ok {
+			continue
+		}
+		names[fn.Name.Name] = map[string]bool{}
+		ast.Inspect(fn.Body, func(n ast.Node) bool {
+			if id, ok := n.(*ast.Ident); ok {
+				names[fn.Name.Name][id.Name] = true
+			}
+			return true
+		})
+	}
+	return names
+}
+
+// reaches tells whether a name is met in what a function names, however far on.
+func reaches(names map[string]map[string]bool, from, to string, seen map[string]bool) bool {
+	for name := range names[from] {
+		if name == to {
+			return true
+		}
+		if !seen[name] {
+			seen[name] = true
+			if reaches(names, name, to, seen) {
+				return true
+			}
+		}
+	}
+	return false
+}
+
+// The constants that are made once stand beside the function that makes them:
+// Sha and BlobGet do without them, and one that answers by that function reads them.
+func TestHashVariablesStandBeside(t *testing.T) {
+	f, err := parser.ParseFile(token.NewFileSet(), "../impl/l04_blobs.go", nil, 0)
+	if err != nil {
+		t.Fatal(err)
+	}
+	names := namedBy(f)
+	for _, variable := range []string{"hashOnce", "hashBegin", "hashRounds"} {
+		for from, want := range map[string]bool{"Sha": false, "BlobGet": false, "BlobRun": true} {
+			if got := reaches(names, from, variable, map[string]bool{}); got != want {
+				t.Errorf("%s reaches %s: %t", from, variable, got)
+			}
+		}
+	}
+	for _, from := range []string{"Sha", "BlobGet", "BlobRun"} {
+		if !reaches(names, from, "newHashRule", map[string]bool{}) {
+			t.Errorf("%s is not worked out by newHashRule", from)
+		}
 	}
 }
