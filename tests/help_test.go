@@ -3,6 +3,7 @@ package tests
 import (
 	"bytes"
 	"math/rand"
+	"strconv"
 	"strings"
 	"testing"
 
@@ -102,3 +103,5 @@ func cutUp(b []byte, size int, r *rand.Rand) [][]byte {
 }
 
 func long(size int) string { return strings.Repeat("a", size) }
+
+func itoa(n int) string { return strconv.Itoa(n) }
