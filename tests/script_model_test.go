@@ -122,6 +122,7 @@ func (m *modelSed) address() (a impl.Addr, fault *modelFault) {
 func (m *modelSed) command() *modelFault {
 	var c impl.Sed
 	var fault *modelFault
+	begin := m.at()
 	if c.From, fault = m.address(); fault != nil {
 		return fault
 	}
@@ -143,7 +144,7 @@ func (m *modelSed) command() *modelFault {
 	}
 	c.Name = m.sign()
 	if len(m.list) == 60 {
-		return &modelFault{impl.ErrMany, name}
+		return &modelFault{impl.ErrMany, begin}
 	}
 	what := takes[c.Name]
 	choosy := c.Not || c.From.Kind != 0
@@ -410,6 +411,27 @@ func TestScriptRandom(t *testing.T) {
 	}
 	for _, code := range []int{impl.OK, impl.ErrSyntax, impl.ErrRange, impl.ErrForbid, impl.ErrLabel} {
 		if codes[code] < 300 {
+			t.Error("too few of a kind to tell anything:", codes)
+		}
+	}
+}
+
+// Scripts of a command with all that stands ahead of it, behind as many commands as a script may have, or nearly.
+func TestScriptRandomBehindMany(t *testing.T) {
+	r := rand.New(rand.NewSource(76))
+	heads := []string{"", " ", "\t;", "\n", "#p\n", " ; # 1p\n\t"}
+	addresses := []string{"", "", "1", "07 ", "$", "/a/\t", `/\//`, "1,2", "1 , $ ", "/a/,\t9", "$,/a*b/", "0", "1,", "1,0", "1,!", "/a", "//", "$,/[b-a]/", "1234567890"}
+	nots := []string{"", "", "!", " !", "! \t", "!!"}
+	names := append(commandNames(), "}", ":", "w", "e", "z", ",", "\n", ";", "#", "\\", "\x00", "\xff", "")
+	behind := []string{"", "", " ", ";", "\n", "}", " x", "/a/b/", "/ab/ba/;p", "/a/b/gg", "l;1,2p"}
+	pick := func(from []string) string { return from[r.Intn(len(from))] }
+	codes := map[int]int{}
+	for range 20000 {
+		full := strings.Repeat("p\n", 59+r.Intn(2)) + pick([]string{"", "", ":a;", "{};", "p;"})
+		codes[wantScriptModel(t, full+pick(heads)+pick(addresses)+pick(nots)+pick(names)+pick(behind), r.Intn(2) == 0)]++
+	}
+	for _, code := range []int{impl.OK, impl.ErrSyntax, impl.ErrRange, impl.ErrForbid, impl.ErrMany} {
+		if codes[code] < 100 {
 			t.Error("too few of a kind to tell anything:", codes)
 		}
 	}

@@ -222,13 +222,44 @@ func TestScriptTooManyCommands(t *testing.T) {
 		sixty+"1", "syntax@121", sixty+"!", "syntax@121", sixty+"1,", "syntax@122", sixty+"1,p", "syntax@122", sixty+"0p", "range@120", sixty+"/[/p", "syntax@121", sixty+"1,1234567890p", "range@122", sixty+"/[b-a]/p", "range@121", sixty+"//", "syntax@121",
 		"{"+row(58, "p;")+"}", "{>59 "+names(58), "{"+row(59, "p;")+"}", "many@119", "{"+row(58, "p;")+"};p", "{>59 "+names(58)+" p", "{"+row(58, "p;")+"};p;p", "many@121", "{"+row(60, "p;"), "many@119", "{"+row(59, "p;"), "syntax@119",
 		":a;"+sixty+"\n", names(60), row(30, "p;")+":a;:b;:c;"+row(30, "p;"), names(60), ":a;"+sixty+":b", "many@123", ":a;"+sixty+":a", "many@123", row(59, "p;")+":a;p", names(60), row(59, "p;")+":a;p;p", "many@123",
-		"}"+sixty+"p", "syntax@0", row(59, "p;")+"b x;p", "many@122", row(60, "p"), "syntax@1", sixty+"1q;q", "many@121", sixty+"1,2q", "many@123", sixty+"1}", "many@121",
+		"}"+sixty+"p", "syntax@0", row(59, "p;")+"b x;p", "many@122", row(60, "p"), "syntax@1", sixty+"1q;q", "many@120", sixty+"1,2q", "many@120", sixty+"1}", "many@120",
 	)
 	var blocks []string
 	for i := range 59 {
 		blocks = append(blocks, "{>"+itoa(i+1))
 	}
 	wantScripts(t, row(59, "{};"), strings.Join(blocks, " "), row(59, "{};")+"p", strings.Join(blocks, " ")+" p", row(60, "{};"), "many@178")
+}
+
+// One command too many is told where it begins: at its first address, or its `!`, behind all that stands ahead of it.
+func TestScriptTooManyBegins(t *testing.T) {
+	full := strings.Repeat("p\n", 60)
+	for _, head := range []string{"", " ", "\t", "\n", ";", " ;\n\t", "#\n", "# 1p\n", "#1\n#2\n", " # x ;\n ;"} {
+		many := "many@" + itoa(len(full)+len(head))
+		for _, address := range []string{"1", "0000001", "999999999", "$", "/a/", `/\//`, "/!/", "1,2", "1 , 2", "$\t,\t/a/", "/1,2/,3", "/;p/,$"} {
+			for _, not := range []string{"", " ", "!", " !", "! ", "\t! \t"} {
+				for _, name := range []string{"p", "{", "{}", "}", ":", ":a", "b", "t none", "a", "i\\\nx", "s/a/b/", "s/a", "s", "y/abc/bca/\n:end\n", "y/a/bc/", "q", "r f", "w", "z", "=", "pp", "p;1,2!p"} {
+					wantScripts(t, full+head+address+not+name, many)
+				}
+			}
+		}
+	}
+	wantScripts(t,
+		full+"!p", "many@120", full+" !p", "many@121", full+"! p", "many@120", full+"!}", "many@120", full+"!:a", "many@120", full+"!z", "many@120", full+",2p", "many@120", full+"!!p", "many@120",
+		full+"1;p", "many@120", full+"1\np", "many@120", full+"1#p", "many@120", full+"1,2,3p", "many@120", full+"1 2p", "many@120",
+		strings.Repeat("1,2!p;", 60)+"/a/ , $ ! p", "many@360", strings.Repeat("1,2!p;", 60), strings.TrimSpace(strings.Repeat("1,2!p ", 60)), "{"+strings.Repeat("p;", 59)+" 1}", "many@120", "1{"+strings.Repeat("p;", 59)+"2p}", "many@120",
+	)
+}
+
+// What is met ahead of the name of one command too many is told first, where it is.
+func TestScriptTooManyFaultsAhead(t *testing.T) {
+	full := strings.Repeat("p\n", 60)
+	wantScripts(t,
+		full+"1", "syntax@121", full+"1 ", "syntax@122", full+"1!", "syntax@122", full+"1,2", "syntax@123", full+"1 , 2 ! ", "syntax@128", full+"$", "syntax@121", full+"/a/", "syntax@123", full+"! ", "syntax@122", full+" \n1", "syntax@123",
+		full+"1,p", "syntax@122", full+"1, p", "syntax@123", full+"1 ,!p", "syntax@123", full+"1,,2p", "syntax@122", full+"$,}", "syntax@122", full+"/a/,;p", "syntax@124",
+		full+"0p", "range@120", full+"0", "range@120", full+"1,0p", "range@122", full+"1234567890p", "range@120", full+"$ , 000p", "range@124", full+"#x\n0!z", "range@123",
+		full+"/a", "syntax@121", full+"//p", "syntax@121", full+"/[b-a]/p", "range@121", full+`/\1/w`, "forbid@121", full+"1,/[/p", "syntax@123", full+"1,/a\n/p", "syntax@123", full+"/"+long(120)+"/p", "many@121", full+"1,/"+long(120)+"/p", "many@123",
+	)
 }
 
 // MaxScript bytes and one more, MaxText bytes and one more.
