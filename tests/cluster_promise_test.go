@@ -176,6 +176,12 @@ func foremost(c impl.Cluster) int {
 	return best
 }
 
+// leadsAll tells whether a peer leads, and none has gone on to a greater term: what
+// a leader is asked for in a term that is over need not be chosen.
+func leadsAll(c impl.Cluster, p int) bool {
+	return c.Peers[p].Role == impl.RlLeader && !slices.ContainsFunc(c.Peers, func(other impl.Peer) bool { return other.Term > c.Peers[p].Term })
+}
+
 // askBehind lets all start and all messages arrive, and one peer whose log is
 // foremost stand until it leads; then it asks that one, and tells what was chosen
 // ahead of that, and whether the run had events enough for it all.
@@ -190,7 +196,7 @@ func askBehind(s *story, r *rand.Rand) ([]impl.Rec, bool) {
 		return nil, false
 	}
 	p := foremost(s.c)
-	for s.c.Peers[p].Role != impl.RlLeader {
+	for !leadsAll(s.c, p) {
 		if s.must(tickOf(p)); !arriveAll(s, r, false) {
 			return nil, false
 		}

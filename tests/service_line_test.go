@@ -200,10 +200,23 @@ func TestLineJobWords(t *testing.T) {
 	// With FILE missing what stands next is FILE, and then VERSION.
 	wantLine(t, "job 0 1 2 3 4 p", proposal(0, 1, 2, "3", 4, "p"))
 	wantNoLine(t, "job 0 1 2 3 p", "job 0 1 2 3", "job 0 1 2 a", "job 0 1 2 a ", "job 0 1 2", "job 0 1 2 ", "job 0 1", "job 0", "job", "job ", "job  ", "job x", "job 0 1 x")
-	// Nothing at all between two blanks is a FILE without a byte: such a job is right.
-	wantLine(t, "job 0 1 2  3 p", proposal(0, 1, 2, "", 3, "p"))
-	wantLine(t, "job 0 1 2  0", proposal(0, 1, 2, "", 0, ""))
 	wantNoLine(t, "job 0 1 2  ", "job 0 1 2   3 p", "job 0 1 2  a p")
+}
+
+// FILE is a word, so it has a byte at least: nothing between two blanks is none,
+// though a job without one is right.
+func TestLineJobWithoutFile(t *testing.T) {
+	for _, version := range []string{"0", "1", "3", "1000000"} {
+		for _, behind := range []string{"", " ", "  ", " p", "  p", " s/o/0/g", " a 3 p", " 0 p"} {
+			wantNoLine(t, jobLine("0", "1", "2", "", version, behind), jobLine("-1", "1000000", "1000000", "", version, behind), jobLine("0", "1", "2", " ", version, behind))
+		}
+	}
+	if b, code := impl.JobBytes(jobOf(1, 2, "", 3, "p", "")); code != impl.OK {
+		t.Errorf("JobBytes without a File: %q with code %d", b, code)
+	}
+	if j, code := impl.ReadJob([]byte("\x01\x02\x00\x03\x01p\x00\x00")); code != impl.OK || j != jobOf(1, 2, "", 3, "p", "") {
+		t.Errorf("ReadJob without a File: %s with code %d", shownJob(j), code)
+	}
 }
 
 // A line has at most MaxText bytes, whatever it is.
@@ -224,7 +237,7 @@ const modelNumberForm = `(0|-?[1-9][0-9]{0,17})`
 
 var (
 	modelNumbered  = regexp.MustCompile(`(?s)\A(tick|deliver|drop|double|crash|start) ` + modelNumberForm + ` ?\z`)
-	modelProposing = regexp.MustCompile(`(?s)\Ajob ` + modelNumberForm + ` ` + modelNumberForm + ` ` + modelNumberForm + ` ([^ ]{0,40}) ` + modelNumberForm + `(?: (.*))?\z`)
+	modelProposing = regexp.MustCompile(`(?s)\Ajob ` + modelNumberForm + ` ` + modelNumberForm + ` ` + modelNumberForm + ` ([^ ]{1,40}) ` + modelNumberForm + `(?: (.*))?\z`)
 )
 
 // modelEventOf is an event by patterns of the whole line.

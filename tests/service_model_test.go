@@ -255,19 +255,19 @@ func jobRun(r *rand.Rand, n, size, way int) []impl.Event {
 	return events
 }
 
-// turned are a job's Data as they are, or quiet, or of no job.
+// turned are a job's Data as they are, or quiet, or of no job, or of one that no
+// line asks for, without a File.
 func (m *serviceMaker) turned(of []byte) []byte {
+	j, _ := modelReadJob(of)
 	switch m.Intn(12) {
 	case 0:
 		return filled(m.Intn(12))
 	case 1:
-		j, _ := modelReadJob(of)
 		j.Seq = 0
-		return bytesOfJob(j)
 	case 2, 3:
-		j, _ := modelReadJob(of)
 		j.Ere, j.Quiet = m.Intn(2) == 0, m.Intn(2) == 0
-		return bytesOfJob(j)
+	case 4:
+		j.File = ""
 	}
-	return of
+	return bytesOfJob(j)
 }

@@ -181,7 +181,7 @@ func settled(t *testing.T) []turn {
 // Jobs that are refused are records, too, and make no file; a job that comes again is done once.
 func TestServiceJobs(t *testing.T) {
 	turns := led(t)
-	jobs := []string{"job 0 1 1 a 0 s/o/0/g", "job 0 1 1 a 1 d", "job 0 2 1 a 0", "job 0 3 1 a 1 z", "job 0 4 1 a-b 0", "job 0 5 1  0 p", "job 0 6 1 b 1", "job 0 7 1 c 0 s/(/", "job 0 1 2 a 1 1d", "job 0 1 1 d 0", "job 0 9 9 d 0 d", "job 0 9 10 a 2 a x y  z "}
+	jobs := []string{"job 0 1 1 a 0 s/o/0/g", "job 0 1 1 a 1 d", "job 0 2 1 a 0", "job 0 3 1 a 1 z", "job 0 4 1 a-b 0", "job 0 5 1 0 0 p", "job 0 6 1 b 1", "job 0 7 1 c 0 s/(/", "job 0 1 2 a 1 1d", "job 0 1 1 d 0", "job 0 9 9 d 0 d", "job 0 9 10 a 2 a x y  z "}
 	for _, job := range jobs {
 		turns = append(turns, turn{job, "ok 0\n"})
 	}
@@ -212,7 +212,7 @@ func TestServiceCodes(t *testing.T) {
 	}
 	refuse("none", "tick 3", "tick -1", "tick 999999999999999999", "crash 3", "crash -1", "start 3", "start -1 ", "job 3 1 1 a 0 p", "job -1 1 1 a 0 p", "deliver 0", "deliver -1", "drop 0", "double 0", "double 1 ", "job 999999999999999999 1 1 a 0")
 	refuse("stale", "start 0", "start 1 ", "start 2", "job 0 1 1 a 0 p", "job 1 1 1 a 0", "job 2 1 1 a 0", "job 0 1 1 a 0 "+long(2000))
-	refuse("syntax", "go", "tick", "tick x", "job 0 1 x", "job 0 0 1 a 0 p", "job 0 1 1 a 0 "+long(2001), "show 3", "error syntax", "ok 2")
+	refuse("syntax", "go", "tick", "tick x", "job 0 1 x", "job 0 0 1 a 0 p", "job 0 1 1 a 0 "+long(2001), "show 3", "error syntax", "ok 2", "job 0 2 3  2 s/o/0/g", "job 0 1 1  0")
 	turns = append(turns, turn{"crash 0", "ok 0\n"})
 	refuse("stale", "crash 0", "tick 0", "job 0 1 1 a 0 p", "job 0 1 1 a 0 "+long(2000))
 	turns = append(turns, turn{"start 0", "ok 0\n"}, turn{"show 0", "follower 0 0 0\n"})
@@ -220,6 +220,7 @@ func TestServiceCodes(t *testing.T) {
 	refuse("none", "deliver 0", "drop 0", "double 0")
 	turns = append(turns, turn{"tick 0", "ok 2\n"})
 	refuse("none", "deliver 2", "drop 2", "double 2", "deliver -1")
+	refuse("syntax", "job 0 1 1  0 p", "job 0 1 1  0")
 	// A record has at most MaxData bytes: these are of a job that makes a file, and of one that does not.
 	spare := 1000 - len(dataOf(1, 1, "a", 0, long(500), newText))
 	turns = append(turns, turn{"job 0 1 1 a 0 #" + long(499+spare), "ok 2\n"})
